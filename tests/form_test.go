@@ -1,0 +1,77 @@
+package tests
+
+import (
+	"bytes"
+	"go/ast"
+	"go/format"
+	"go/parser"
+	"go/token"
+	"os"
+	"path/filepath"
+	"strings"
+	"testing"
+)
+
+const allowedImports = " bytes cmp container/heap errors iter maps math math/bits slices sort strconv strings sync sync/atomic unicode unicode/utf8 "
+
+const maxFunctionLines = 60
+
+func programFiles(t *testing.T) []string {
+	t.Helper()
+	files, err := filepath.Glob("../impl/*")
+	if err != nil || len(files) == 0 {
+		t.Fatal("no files in impl", err)
+	}
+	return files
+}
+
+func parsed(t *testing.T, path string) (*token.FileSet, *ast.File) {
+	t.Helper()
+	fset := token.NewFileSet()
+	f, err := parser.ParseFile(fset, path, nil, parser.ParseComments)
+	if err != nil {
+		t.Fatal(err)
+	}
+	return fset, f
+}
+
+func TestProgramKeepsToItsLanguage(t *testing.T) {
+	for _, path := range programFiles(t) {
+		if !strings.HasSuffix(path, ".go") {
+			t.Errorf("%s is no Go file", path)
+			continue
+		}
+		source, err := os.ReadFile(path)
+		if err != nil {
+			t.Fatal(err)
+		}
+		if laid, err := format.Source(source); err != nil || !bytes.Equal(laid, source) {
+			t.Errorf("%s has not gofmt's layout", path)
+		}
+		fset, f := parsed(t, path)
+		for _, i := range f.Imports {
+			if !strings.Contains(allowedImports, " "+strings.Trim(i.Path.Value, "\"")+" ") {
+				t.Errorf("%s imports %s", path, i.Path.Value)
+			}
+		}
+		for _, d := range f.Decls {
+			if fn, ok := d.(*ast.FuncDecl); ok && fset.Position(fn.End()).Line-fset.Position(fn.Pos()).Line >= maxFunctionLines {
+				t.Errorf("%s: %s is too long", path, fn.Name.Name)
+			}
+		}
+	}
+}
+
+func TestNumbersArePutByVariadicFunctions(t *testing.T) {
+	_, f := parsed(t, "../impl/l01_bytes.go")
+	variadics := 0
+	ast.Inspect(f, func(n ast.Node) bool {
+		if e, ok := n.(*ast.Ellipsis); ok && e.Elt != nil {
+			variadics++
+		}
+		return true
+	})
+	if variadics == 0 {
+		t.Error("l01_bytes.go has no variadic function")
+	}
+}
