@@ -44,9 +44,7 @@ func GetS(b []byte, at int) (int, int, bool) {
 	return n, next, true
 }
 
-func PutText(b []byte, s string) []byte {
-	return append(PutU(b, len(s)), s...)
-}
+func PutText(b []byte, s string) []byte { return appendText(ownCopy(b), s) }
 
 func GetText(b []byte, at int) (string, int, bool) {
 	size, from, ok := GetU(b, at)
@@ -86,6 +84,11 @@ func appendS(b []byte, numbers ...int) []byte {
 		b = append(b, byte(n&groupMask))
 	}
 	return b
+}
+
+// appendText may write behind b's length: b must be the program's own.
+func appendText(b []byte, s string) []byte {
+	return append(appendU(b, len(s)), s...)
 }
 
 // countGroups answers 0 where no number is there whole.

@@ -75,3 +75,20 @@ func TestNumbersArePutByVariadicFunctions(t *testing.T) {
 		t.Error("l01_bytes.go has no variadic function")
 	}
 }
+
+func TestValuesAreToldByATypeSwitch(t *testing.T) {
+	_, f := parsed(t, "../impl/l02_val.go")
+	interfaces, switches := 0, 0
+	ast.Inspect(f, func(n ast.Node) bool {
+		switch n.(type) {
+		case *ast.InterfaceType:
+			interfaces++
+		case *ast.TypeSwitchStmt:
+			switches++
+		}
+		return true
+	})
+	if interfaces == 0 || switches == 0 {
+		t.Error("l02_val.go has no interface, or no type switch")
+	}
+}

@@ -49,6 +49,10 @@ func putters() map[string]func([]byte) []byte {
 		"PutS of five":      func(b []byte) []byte { return impl.PutS(b, -2147483648) },
 		"PutText":           func(b []byte) []byte { return impl.PutText(b, "some text") },
 		"PutText of an end": func(b []byte) []byte { return impl.PutText(b, "") },
+		"PutVal":            func(b []byte) []byte { return impl.PutVal(b, impl.Val{}) },
+		"PutVal of a kind":  func(b []byte) []byte { return impl.PutVal(b, impl.Val{K: 3}) },
+		"PutVal of five":    func(b []byte) []byte { return impl.PutVal(b, num(-2147483648)) },
+		"PutVal of a text":  func(b []byte) []byte { return impl.PutVal(b, text("some text")) },
 	}
 }
 
@@ -89,23 +93,25 @@ func TestAnswersShareNoMemoryWithEachOther(t *testing.T) {
 }
 
 func TestGettersLeaveTheArgument(t *testing.T) {
-	for _, s := range []string{"", "\x05", "\x80", "\x80\x01", "\x03xyz", "\x03xy", "\xff\xff\xff\xff\x07", "\x80\x80\x80\x80\x78"} {
+	for _, s := range []string{"", "\x05", "\x80", "\x80\x01", "\x03xyz", "\x03xy", "\xff\xff\xff\xff\x07", "\x80\x80\x80\x80\x78", "\x01\x7f", "\x02\x03xyz", "\x02\x03xy"} {
 		b := roomy(s, 16)
 		for at := -1; at <= len(s)+1; at++ {
 			impl.GetU(b, at)
 			impl.GetS(b, at)
 			impl.GetText(b, at)
+			impl.GetVal(b, at)
 		}
 		wantUntouched(t, "a getter", b, s)
 	}
 }
 
-func TestGetTextAnswersNewMemory(t *testing.T) {
-	b := []byte("\x03xyz")
-	s, _, _ := impl.GetText(b, 0)
+func TestTextsThatAreReadAreNewMemory(t *testing.T) {
+	b := []byte("\x02\x03xyz")
+	s, _, _ := impl.GetText(b, 1)
+	v, _, _ := impl.GetVal(b, 0)
 	overwrite(b)
-	if s != "xyz" {
-		t.Errorf("the text changed with its bytes: %q", s)
+	if s != "xyz" || v != text("xyz") {
+		t.Errorf("the text changed with its bytes: %q, %#v", s, v)
 	}
 }
 
@@ -121,8 +127,13 @@ func TestGettersStopAtTheLength(t *testing.T) {
 	if n, next, ok := impl.GetU(whole[:1], 1); n != 0 || next != 0 || ok {
 		t.Errorf("GetU began behind the length: %d, %d, %v", n, next, ok)
 	}
-	text := []byte("\x03xyz")
-	if s, next, ok := impl.GetText(text[:3], 0); s != "" || next != 0 || ok {
+	long := []byte("\x02\x03xyz")
+	if s, next, ok := impl.GetText(long[:4], 1); s != "" || next != 0 || ok {
 		t.Errorf("GetText read behind the length: %q, %d, %v", s, next, ok)
+	}
+	for size := range len(long) {
+		if v, next, ok := impl.GetVal(long[:size], 0); v != (impl.Val{}) || next != 0 || ok {
+			t.Errorf("GetVal read behind the length %d: %#v, %d, %v", size, v, next, ok)
+		}
 	}
 }
