@@ -92,3 +92,43 @@ func TestValuesAreToldByATypeSwitch(t *testing.T) {
 		t.Error("l02_val.go has no interface, or no type switch")
 	}
 }
+
+func TestWhatCannotBeReadIsCaughtAtTheFace(t *testing.T) {
+	_, f := parsed(t, "../impl/l03_rex.go")
+	panics, caught := 0, 0
+	ast.Inspect(f, func(n ast.Node) bool {
+		if x, ok := n.(*ast.CallExpr); ok && isCallOf(x, "panic") {
+			panics++
+		}
+		return true
+	})
+	for _, d := range f.Decls {
+		if fn, ok := d.(*ast.FuncDecl); ok && fn.Name.Name == "ParseRex" {
+			caught = deferredRecovers(fn)
+		}
+	}
+	if panics == 0 || caught == 0 {
+		t.Error("l03_rex.go has no panic, or ParseRex no deferred recover")
+	}
+}
+
+func isCallOf(x *ast.CallExpr, name string) bool {
+	id, ok := x.Fun.(*ast.Ident)
+	return ok && id.Name == name
+}
+
+func deferredRecovers(fn *ast.FuncDecl) int {
+	count := 0
+	ast.Inspect(fn, func(n ast.Node) bool {
+		if d, ok := n.(*ast.DeferStmt); ok {
+			ast.Inspect(d, func(n ast.Node) bool {
+				if x, ok := n.(*ast.CallExpr); ok && isCallOf(x, "recover") {
+					count++
+				}
+				return true
+			})
+		}
+		return true
+	})
+	return count
+}
