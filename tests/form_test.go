@@ -112,6 +112,27 @@ func TestWhatCannotBeReadIsCaughtAtTheFace(t *testing.T) {
 	}
 }
 
+func TestPlacesComeOutOfAnIterator(t *testing.T) {
+	_, f := parsed(t, "../impl/l04_ends.go")
+	iterators, ranges := 0, 0
+	ast.Inspect(f, func(n ast.Node) bool {
+		switch x := n.(type) {
+		case *ast.FuncLit:
+			if p := x.Type.Params.List; len(p) == 1 && len(p[0].Names) == 1 && p[0].Names[0].Name == "yield" {
+				iterators++
+			}
+		case *ast.RangeStmt:
+			if call, ok := x.X.(*ast.CallExpr); ok && !isCallOf(call, "len") {
+				ranges++
+			}
+		}
+		return true
+	})
+	if iterators == 0 || ranges == 0 {
+		t.Error("l04_ends.go has no iterator, or no range over one")
+	}
+}
+
 func isCallOf(x *ast.CallExpr, name string) bool {
 	id, ok := x.Fun.(*ast.Ident)
 	return ok && id.Name == name
