@@ -133,8 +133,31 @@ func TestPlacesComeOutOfAnIterator(t *testing.T) {
 	}
 }
 
-func isCallOf(x *ast.CallExpr, name string) bool {
-	id, ok := x.Fun.(*ast.Ident)
+func TestNodesAreAnArrayReachedByPointers(t *testing.T) {
+	_, f := parsed(t, "../impl/l05_nfa.go")
+	arrays, pointers := 0, 0
+	ast.Inspect(f, func(n ast.Node) bool {
+		switch x := n.(type) {
+		case *ast.ArrayType:
+			if x.Len != nil && isNamed(x.Elt, "Node") {
+				arrays++
+			}
+		case *ast.StarExpr:
+			if isNamed(x.X, "Node") {
+				pointers++
+			}
+		}
+		return true
+	})
+	if arrays == 0 || pointers == 0 {
+		t.Error("l05_nfa.go has no array of nodes, or no pointer to one")
+	}
+}
+
+func isCallOf(x *ast.CallExpr, name string) bool { return isNamed(x.Fun, name) }
+
+func isNamed(x ast.Expr, name string) bool {
+	id, ok := x.(*ast.Ident)
 	return ok && id.Name == name
 }
 

@@ -362,10 +362,10 @@ func TestSomeExpressionsEndAsTold(t *testing.T) {
 	}
 }
 
-// What two kinds make of each other: every one of them with every one within.
-func TestEachKindWithinEachEndsAsTold(t *testing.T) {
+// kindsWithinKinds tells what two kinds make of each other: every one of them with every one within.
+func kindsWithinKinds() []impl.Rex {
 	inner := []impl.Rex{lit("a"), kind(impl.RAny), set("ab"), kind(impl.REmpty), kind(impl.RBegin), kind(impl.REnd)}
-	var middle []impl.Rex
+	var middle, l []impl.Rex
 	for _, x := range inner {
 		middle = append(middle, x, star(x), plus(x), opt(x))
 		for _, y := range inner {
@@ -373,13 +373,19 @@ func TestEachKindWithinEachEndsAsTold(t *testing.T) {
 		}
 	}
 	for _, x := range middle {
-		for _, r := range []impl.Rex{star(x), plus(x), opt(x), cat(x, lit("b")), cat(lit("b"), x), alt(x, lit("b")), cat(opt(lit("b")), x), cat(x, star(lit("a")))} {
-			if !impl.RexOk(r) {
-				continue
+		for _, r := range []impl.Rex{x, star(x), plus(x), opt(x), cat(x, lit("b")), cat(lit("b"), x), alt(x, lit("b")), alt(lit("b"), x, lit("a")), cat(opt(lit("b")), x), cat(x, star(lit("a")))} {
+			if impl.RexOk(r) {
+				l = append(l, r)
 			}
-			for _, s := range shortTexts("ab", 4) {
-				wantAsTold(t, r, s, toldEverywhere(r, s))
-			}
+		}
+	}
+	return l
+}
+
+func TestEachKindWithinEachEndsAsTold(t *testing.T) {
+	for _, r := range kindsWithinKinds() {
+		for _, s := range shortTexts("ab", 4) {
+			wantAsTold(t, r, s, toldEverywhere(r, s))
 		}
 	}
 }
