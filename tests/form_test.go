@@ -8,6 +8,7 @@ import (
 	"go/token"
 	"os"
 	"path/filepath"
+	"slices"
 	"strings"
 	"testing"
 )
@@ -152,6 +153,40 @@ func TestNodesAreAnArrayReachedByPointers(t *testing.T) {
 	if arrays == 0 || pointers == 0 {
 		t.Error("l05_nfa.go has no array of nodes, or no pointer to one")
 	}
+}
+
+// What a function's argument of type string is ranged over by is its runes.
+func TestTextsAreReadByARangeOverTheirRunes(t *testing.T) {
+	_, f := parsed(t, "../impl/l06_text.go")
+	ranges := 0
+	for _, d := range f.Decls {
+		fn, ok := d.(*ast.FuncDecl)
+		if !ok {
+			continue
+		}
+		texts := textArguments(fn)
+		ast.Inspect(fn, func(n ast.Node) bool {
+			if x, ok := n.(*ast.RangeStmt); ok && x.Value != nil && slices.ContainsFunc(texts, func(name string) bool { return isNamed(x.X, name) }) {
+				ranges++
+			}
+			return true
+		})
+	}
+	if ranges == 0 {
+		t.Error("l06_text.go has no range over a text")
+	}
+}
+
+func textArguments(fn *ast.FuncDecl) []string {
+	var names []string
+	for _, field := range fn.Type.Params.List {
+		for _, name := range field.Names {
+			if isNamed(field.Type, "string") {
+				names = append(names, name.Name)
+			}
+		}
+	}
+	return names
 }
 
 func isCallOf(x *ast.CallExpr, name string) bool { return isNamed(x.Fun, name) }
