@@ -177,6 +177,31 @@ func TestTextsAreReadByARangeOverTheirRunes(t *testing.T) {
 	}
 }
 
+func TestATextIsGoneThroughByGoto(t *testing.T) {
+	_, f := parsed(t, "../impl/l07_token.go")
+	jumps, loops := 0, 0
+	for _, d := range f.Decls {
+		fn, ok := d.(*ast.FuncDecl)
+		if !ok || fn.Name.Name != "Lex" {
+			continue
+		}
+		ast.Inspect(fn, func(n ast.Node) bool {
+			switch x := n.(type) {
+			case *ast.BranchStmt:
+				if x.Tok == token.GOTO {
+					jumps++
+				}
+			case *ast.ForStmt, *ast.RangeStmt:
+				loops++
+			}
+			return true
+		})
+	}
+	if jumps == 0 || loops > 0 {
+		t.Errorf("Lex has %d gotos and %d loops", jumps, loops)
+	}
+}
+
 func textArguments(fn *ast.FuncDecl) []string {
 	var names []string
 	for _, field := range fn.Type.Params.List {
