@@ -202,6 +202,35 @@ func TestATextIsGoneThroughByGoto(t *testing.T) {
 	}
 }
 
+func TestATermsKindsAreTypesOfTheirOwn(t *testing.T) {
+	_, f := parsed(t, "../impl/l08_expr.go")
+	embedding, methods := map[string]int{}, map[string]int{}
+	ast.Inspect(f, func(n ast.Node) bool {
+		switch x := n.(type) {
+		case *ast.TypeSpec:
+			if s, ok := x.Type.(*ast.StructType); ok && slices.ContainsFunc(s.Fields.List, func(f *ast.Field) bool { return len(f.Names) == 0 }) {
+				embedding[x.Name.Name]++
+			}
+		case *ast.FuncDecl:
+			if x.Recv != nil {
+				if id, ok := x.Recv.List[0].Type.(*ast.Ident); ok {
+					methods[id.Name]++
+				}
+			}
+		}
+		return true
+	})
+	kinds := 0
+	for name := range embedding {
+		if methods[name] >= 2 {
+			kinds++
+		}
+	}
+	if kinds < len(exprKinds()) {
+		t.Errorf("l08_expr.go has only %d types with methods in which something is embedded", kinds)
+	}
+}
+
 func textArguments(fn *ast.FuncDecl) []string {
 	var names []string
 	for _, field := range fn.Type.Params.List {
