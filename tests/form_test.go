@@ -231,6 +231,20 @@ func TestATermsKindsAreTypesOfTheirOwn(t *testing.T) {
 	}
 }
 
+func TestAStatementsTextFallsThrough(t *testing.T) {
+	_, f := parsed(t, "../impl/l09_stmt.go")
+	falls := 0
+	ast.Inspect(f, func(n ast.Node) bool {
+		if x, ok := n.(*ast.BranchStmt); ok && x.Tok == token.FALLTHROUGH {
+			falls++
+		}
+		return true
+	})
+	if falls == 0 {
+		t.Error("l09_stmt.go has no fallthrough")
+	}
+}
+
 func textArguments(fn *ast.FuncDecl) []string {
 	var names []string
 	for _, field := range fn.Type.Params.List {
