@@ -245,6 +245,38 @@ func TestAStatementsTextFallsThrough(t *testing.T) {
 	}
 }
 
+func TestTreesAreHeldAgainstEachOtherByAGenericFunction(t *testing.T) {
+	_, f := parsed(t, "../impl/l10_prog.go")
+	calls := map[string]int{}
+	for _, d := range f.Decls {
+		if fn, ok := d.(*ast.FuncDecl); ok && fn.Type.TypeParams != nil && isHandedOneOfTwo(fn) {
+			calls[fn.Name.Name] = 0
+		}
+	}
+	most := 0
+	ast.Inspect(f, func(n ast.Node) bool {
+		if x, ok := n.(*ast.CallExpr); ok {
+			for name := range calls {
+				if isCallOf(x, name) {
+					calls[name]++
+					most = max(most, calls[name])
+				}
+			}
+		}
+		return true
+	})
+	if most < 2 {
+		t.Error("l10_prog.go has no generic function that is handed a function value of two, for terms and for statements")
+	}
+}
+
+func isHandedOneOfTwo(fn *ast.FuncDecl) bool {
+	return slices.ContainsFunc(fn.Type.Params.List, func(field *ast.Field) bool {
+		handed, ok := field.Type.(*ast.FuncType)
+		return ok && len(handed.Params.List) == 2
+	})
+}
+
 func textArguments(fn *ast.FuncDecl) []string {
 	var names []string
 	for _, field := range fn.Type.Params.List {
