@@ -277,6 +277,41 @@ func isHandedOneOfTwo(fn *ast.FuncDecl) bool {
 	})
 }
 
+// A word stands as the key of a reader, which is a function, in a map.
+func TestReadersStandInAMapByTheirWord(t *testing.T) {
+	_, f := parsed(t, "../impl/l11_parse.go")
+	words := map[string]int{}
+	ast.Inspect(f, func(n ast.Node) bool {
+		list, ok := n.(*ast.CompositeLit)
+		if !ok || !isMapOfFunctions(list.Type) {
+			return true
+		}
+		for _, e := range list.Elts {
+			if entry, ok := e.(*ast.KeyValueExpr); ok {
+				if key, ok := entry.Key.(*ast.BasicLit); ok {
+					words[strings.Trim(key.Value, "\"")]++
+				}
+			}
+		}
+		return true
+	})
+	for _, word := range noNames() {
+		// These two stand within what begins with another.
+		if word != "else" && word != "in" && words[word] == 0 {
+			t.Errorf("l11_parse.go has no reader of %q in a map", word)
+		}
+	}
+}
+
+func isMapOfFunctions(x ast.Expr) bool {
+	m, ok := x.(*ast.MapType)
+	if !ok || !isNamed(m.Key, "string") {
+		return false
+	}
+	_, ok = m.Value.(*ast.FuncType)
+	return ok
+}
+
 func textArguments(fn *ast.FuncDecl) []string {
 	var names []string
 	for _, field := range fn.Type.Params.List {
