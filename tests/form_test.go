@@ -312,6 +312,39 @@ func isMapOfFunctions(x ast.Expr) bool {
 	return ok
 }
 
+// What is ranged over where a name goes out of the map are a function's Params.
+func TestParamsAreDeletedFromTheMapOfNames(t *testing.T) {
+	_, f := parsed(t, "../impl/l12_check.go")
+	maps, deleted := 0, 0
+	ast.Inspect(f, func(n ast.Node) bool {
+		switch x := n.(type) {
+		case *ast.MapType:
+			if isNamed(x.Key, "string") {
+				maps++
+			}
+		case *ast.RangeStmt:
+			if over, ok := x.X.(*ast.SelectorExpr); ok && over.Sel.Name == "Params" {
+				deleted += callsWithin(x, "delete")
+			}
+		}
+		return true
+	})
+	if maps == 0 || deleted == 0 {
+		t.Error("l12_check.go has no map by names, or no Param is deleted from it")
+	}
+}
+
+func callsWithin(n ast.Node, name string) int {
+	count := 0
+	ast.Inspect(n, func(n ast.Node) bool {
+		if x, ok := n.(*ast.CallExpr); ok && isCallOf(x, name) {
+			count++
+		}
+		return true
+	})
+	return count
+}
+
 func textArguments(fn *ast.FuncDecl) []string {
 	var names []string
 	for _, field := range fn.Type.Params.List {
