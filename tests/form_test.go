@@ -334,6 +334,27 @@ func TestParamsAreDeletedFromTheMapOfNames(t *testing.T) {
 	}
 }
 
+// What is cut in RecOf are the words of its line.
+func TestFieldsAreCutByThreeIndexes(t *testing.T) {
+	_, f := parsed(t, "../impl/l13_rec.go")
+	cuts := 0
+	for _, d := range f.Decls {
+		fn, ok := d.(*ast.FuncDecl)
+		if !ok || fn.Name.Name != "RecOf" {
+			continue
+		}
+		ast.Inspect(fn, func(n ast.Node) bool {
+			if x, ok := n.(*ast.SliceExpr); ok && x.Slice3 {
+				cuts++
+			}
+			return true
+		})
+	}
+	if cuts == 0 {
+		t.Error("RecOf has no slice expression with three indexes")
+	}
+}
+
 func callsWithin(n ast.Node, name string) int {
 	count := 0
 	ast.Inspect(n, func(n ast.Node) bool {
