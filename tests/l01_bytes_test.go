@@ -157,6 +157,7 @@ func TestGetSRefuses(t *testing.T) {
 
 // What is read of any bytes is put as just these bytes, so no number has two forms.
 func TestEveryFormIsTheOneThatIsPut(t *testing.T) {
+	t.Parallel()
 	tails := []string{"", "\x00", "\x01", "\x07", "\x08", "\x3f", "\x40", "\x70", "\x77", "\x78", "\x7f", "\x80\x00", "\x80\x7f", "\xff\xff\x07", "\xff\xff\x78", "\x80\x80\x78", "\xff\x80\x80\x01"}
 	for i := range 65536 {
 		for _, tail := range tails {

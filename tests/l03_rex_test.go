@@ -455,6 +455,7 @@ func listsOf(k int, of [][]rexRow, between string, size int, least int) []rexRow
 
 // Every text of up to 6 of these bytes is right just if the grammar has it, and then it is read as it stands there.
 func TestParseRexOfAllShortTexts(t *testing.T) {
+	t.Parallel()
 	const size, alphabet = 6, "ab|*?()[]"
 	g := grammarUpTo(size)
 	right := map[string]impl.Rex{}

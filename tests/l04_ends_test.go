@@ -383,6 +383,7 @@ func kindsWithinKinds() []impl.Rex {
 }
 
 func TestEachKindWithinEachEndsAsTold(t *testing.T) {
+	t.Parallel()
 	for _, r := range kindsWithinKinds() {
 		for _, s := range shortTexts("ab", 4) {
 			wantAsTold(t, r, s, toldEverywhere(r, s))
@@ -474,6 +475,7 @@ func TestWrongExpressionsHaveNoEnds(t *testing.T) {
 
 // What is longest begins at the first place that has an end, ends at its last one, and is there just if there is some end.
 func TestWhatIsLongestBeginsAtTheFirstPlaceWithAnEnd(t *testing.T) {
+	t.Parallel()
 	texts := append(shortTexts("abc", 4), "xxabcabc", strings.Repeat("x", 99)+"abcdef", strings.Repeat("x", impl.MaxText), "  a, b: c-d_0 Z")
 	for _, r := range someRexes() {
 		for _, s := range texts {

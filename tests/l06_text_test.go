@@ -332,6 +332,7 @@ func TestReplaceInTextsWithAllBytes(t *testing.T) {
 }
 
 func TestAllIsReplacedAsTold(t *testing.T) {
+	t.Parallel()
 	for _, r := range allRexes() {
 		for _, s := range append(shortTexts("ab", 3), "bcacaba", "\xffa\x80é") {
 			wantReplacedAsTold(t, r, s, toldEverywhere(r, s), "", "-", "a", "aé\xff")

@@ -397,6 +397,7 @@ func TestBytesThatBeginNoToken(t *testing.T) {
 }
 
 func TestAllShortTextsAreReadAsTold(t *testing.T) {
+	t.Parallel()
 	for first := range 256 {
 		for second := range 256 {
 			s := string([]byte{byte(first), byte(second)})

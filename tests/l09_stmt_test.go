@@ -514,6 +514,7 @@ func stmtOfCount(count, most int) impl.Stmt {
 }
 
 func TestHowManyStatementsAStatementMayHave(t *testing.T) {
+	t.Parallel()
 	for count := 1; count <= 130; count++ {
 		for _, most := range []int{3, 4, 5, 8, 59, 60, 61, 200} {
 			x := stmtOfCount(count, most)

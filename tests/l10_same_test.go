@@ -203,6 +203,7 @@ func someProgs() []impl.Prog {
 }
 
 func TestTermsAreTheSameAsThemselves(t *testing.T) {
+	t.Parallel()
 	for i, e := range someExprs() {
 		name := "the term " + strconv.Itoa(i)
 		wantSameExpr(t, name, e, e, true)
@@ -216,6 +217,7 @@ func TestTermsAreTheSameAsThemselves(t *testing.T) {
 }
 
 func TestStatementsAreTheSameAsThemselves(t *testing.T) {
+	t.Parallel()
 	for i, x := range someStatements() {
 		name := "the statement " + strconv.Itoa(i)
 		wantSameStmt(t, name, x, x, true)

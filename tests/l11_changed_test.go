@@ -25,6 +25,7 @@ func eachSequence(words []string, size int, use func(string)) {
 }
 
 func TestAllShortTerms(t *testing.T) {
+	t.Parallel()
 	read := 0
 	for _, z := range []struct {
 		words string
@@ -53,6 +54,7 @@ func TestAllShortTerms(t *testing.T) {
 }
 
 func TestAllShortBlocks(t *testing.T) {
+	t.Parallel()
 	read := 0
 	for _, z := range []struct {
 		words string
@@ -82,6 +84,7 @@ func TestAllShortBlocks(t *testing.T) {
 }
 
 func TestAllShortPrograms(t *testing.T) {
+	t.Parallel()
 	read := 0
 	for _, z := range []struct {
 		words string
@@ -156,6 +159,7 @@ func TestOneTokenThatIsOtherInATerm(t *testing.T) {
 }
 
 func TestOneTokenThatIsOtherInABlock(t *testing.T) {
+	t.Parallel()
 	read := 0
 	for _, row := range stmtRows() {
 		l, _ := toldLex("{ " + row.text + " }")
@@ -171,6 +175,7 @@ func TestOneTokenThatIsOtherInABlock(t *testing.T) {
 }
 
 func TestOneTokenThatIsOtherInAProgram(t *testing.T) {
+	t.Parallel()
 	read := 0
 	for _, row := range progRows() {
 		l, _ := toldLex(row.text)
@@ -191,6 +196,7 @@ func TestOneTokenThatIsOtherInAProgram(t *testing.T) {
 
 // Whatever the text is, it is read as told, or not at all.
 func TestTextsOfAllSorts(t *testing.T) {
+	t.Parallel()
 	r := rand.New(rand.NewSource(7))
 	all := otherTokens()
 	for range 15000 {

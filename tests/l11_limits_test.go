@@ -121,6 +121,7 @@ func TestHowDeepStatementsAreRead(t *testing.T) {
 }
 
 func TestHowManyStatementsAreRead(t *testing.T) {
+	t.Parallel()
 	for count := 1; count <= 130; count++ {
 		for _, most := range []int{4, 5, 8, 59, 60, 200} {
 			x := stmtOfCount(count, most)

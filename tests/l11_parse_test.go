@@ -197,6 +197,7 @@ func randomProg(r *rand.Rand) impl.Prog {
 }
 
 func TestTreesOfAllShapesComeBackOfTheirTexts(t *testing.T) {
+	t.Parallel()
 	r := rand.New(rand.NewSource(11))
 	count := 0
 	for range 4000 {

@@ -219,6 +219,7 @@ func withParamOfK(p impl.Prog, name string) impl.Prog {
 }
 
 func TestATermNamesWhereverItStands(t *testing.T) {
+	t.Parallel()
 	for _, row := range []struct {
 		e              impl.Expr
 		isVar, isTable bool
@@ -250,6 +251,7 @@ func TestATermNamesWhereverItStands(t *testing.T) {
 }
 
 func TestTermsOfAllPlacesAsTold(t *testing.T) {
+	t.Parallel()
 	for _, e := range []impl.Expr{xVar("n"), xVar("t"), xVar("f"), xVar("x"), term(impl.XAt, "x", xVar("k")), term(impl.XIn, "h", xVar("a")), xCall("k"), xCall("x", xVar("n"))} {
 		for _, p := range progsWithTerm(e) {
 			wantNaming(t, p)
@@ -258,6 +260,7 @@ func TestTermsOfAllPlacesAsTold(t *testing.T) {
 }
 
 func TestAStatementNamesWhereverItStands(t *testing.T) {
+	t.Parallel()
 	for _, row := range []struct {
 		x              impl.Stmt
 		isVar, isTable bool
@@ -465,6 +468,7 @@ func TestHowManyTermsACallHas(t *testing.T) {
 }
 
 func TestACallWhereverItStands(t *testing.T) {
+	t.Parallel()
 	for _, row := range []struct {
 		e    impl.Expr
 		want int
@@ -655,6 +659,7 @@ func tamed(r *rand.Rand, odd int) impl.Prog {
 }
 
 func TestProgramsOfAllShapesAsTold(t *testing.T) {
+	t.Parallel()
 	r := rand.New(rand.NewSource(1212))
 	counts := map[int]int{}
 	for i := range 6000 {
